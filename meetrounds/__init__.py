@@ -1,0 +1,1 @@
+"""Meetrounds: rounds in which two sides meet."""

@@ -1,0 +1,17 @@
+"""Questions about single values, whatever these are, that several modules ask."""
+
+_LONGEST_NAME = 8
+_FIRST_SIGNS = "abcdefghijklmnopqrstuvwxyz"
+_SIGNS = "abcdefghijklmnopqrstuvwxyz0123456789"
+
+
+def is_integer(value, least, most):
+    """Whether the value is an integer from least to most; True and False are none."""
+    return isinstance(value, int) and not isinstance(value, bool) and least <= value <= most
+
+
+def is_name(value):
+    """Whether the value is a name."""
+    if not isinstance(value, str) or not 1 <= len(value) <= _LONGEST_NAME:
+        return False
+    return value[0] in _FIRST_SIGNS and all([sign in _SIGNS for sign in value])
