@@ -5,9 +5,11 @@ _FIRST_SIGNS = "abcdefghijklmnopqrstuvwxyz"
 _SIGNS = "abcdefghijklmnopqrstuvwxyz0123456789"
 
 
-def is_integer(value, least, most):
-    """Whether the value is an integer from least to most; True and False are none."""
-    return isinstance(value, int) and not isinstance(value, bool) and least <= value <= most
+def is_integer(value, least, most=None):
+    """Whether the value is an integer from least to most, from least on if most is None; True and False are none."""
+    if not isinstance(value, int) or isinstance(value, bool):
+        return False
+    return least <= value and (most is None or value <= most)
 
 
 def is_name(value):

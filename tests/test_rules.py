@@ -19,6 +19,8 @@ BUILTINS = set(
 DECORATORS = re.compile(r"property|classmethod|staticmethod|[a-z_]+\.setter")
 STATEMENTS_BARRED = (
     ast.Global, ast.AsyncFunctionDef, ast.AsyncFor, ast.AsyncWith, ast.Import, ast.Await, ast.Div, ast.MatMult,
+    # Beside a class with __eq__, `any`, `sum` and the like take lists.
+    ast.GeneratorExp,
 )
 
 
@@ -78,6 +80,28 @@ class RulesTest(unittest.TestCase):
         defined = [node.name for node in body if isinstance(node, (ast.FunctionDef, ast.ClassDef))]
         assigned = [node.targets[0].id for node in body if isinstance(node, ast.Assign)]
         self.assertIn(name, defined + assigned)
+
+    def test_no_file_imports_itself_through_others(self):
+        needs = {}
+        for path in FILES:
+            tree = ast.parse(path.read_text(encoding="utf-8"))
+            modules = [node.module for node in tree.body if isinstance(node, ast.ImportFrom)]
+            needs[path.stem] = [module.split(".")[1] for module in modules if module.startswith("meetrounds.")]
+        while needs:
+            free = [name for name, others in needs.items() if not set(others) & set(needs)]
+            self.assertTrue(free, needs)
+            needs = {name: others for name, others in needs.items() if name not in free}
+
+    def test_names_are_bound_once(self):
+        self.each_file(self.check_names)
+
+    def check_names(self, _, tree):
+        shared = [alias.name for node in tree.body if isinstance(node, ast.ImportFrom) for alias in node.names]
+        shared += [node.name for node in tree.body if isinstance(node, (ast.ClassDef, ast.FunctionDef))]
+        bound = [name for name in bound_names(tree) if name in shared]
+        methods = [part.name for node in tree.body if isinstance(node, ast.ClassDef) for part in node.body
+                   if isinstance(part, ast.FunctionDef) and part.name in shared]
+        self.assertEqual(sorted(shared + methods), sorted(bound))
 
     def test_statements_and_literals(self):
         self.each_file(self.check_statements_and_literals)

@@ -22,6 +22,13 @@ class IntegerTest(unittest.TestCase):
         for value in (-1, 0, 5, GREAT, -GREAT):
             self.assertIs(False, is_integer(value, 1, 4))
 
+    def test_integers_from_a_limit_on(self):
+        for value in (0, 1, GREAT, GREAT ** 2):
+            self.assertIs(True, is_integer(value, 0))
+            self.assertIs(value > 0, is_integer(value, 1))
+        for value in (-1, -GREAT, True, False, None, "1", (1,), EqualToAll(), Touchy()):
+            self.assertIs(False, is_integer(value, 0))
+
     def test_true_and_false_are_no_integers(self):
         self.assertIs(False, is_integer(True, 0, 4))
         self.assertIs(False, is_integer(False, 0, 4))
