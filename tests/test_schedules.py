@@ -297,7 +297,8 @@ class RoundAtTest(WrongCase):
     def test_values_that_are_no_schedules_of_the_fair(self):
         others = (
             ((((1, 1), (0, 1)), 1),), ((((1, 0), (1, 0)), 1),), ((((0, 2), (0, 0)), 1),), ((((0, 1), (0, 2)), 1),),
-            ((((1,),), 1),), ((((1, 0, 0), (0, 1, 0)), 1),), FAR + ((((1, 1), (1, 1)), 1),), ((((GREAT, 0), (0, 0)), 1),),
+            ((((1,),), 1),), ((((1, 0, 0), (0, 1, 0)), 1),), FAR + ((((1, 1), (1, 1)), 1),),
+            ((((GREAT, 0), (0, 0)), 1),),
         )
         for value in NO_SCHEDULES + others:
             with self.subTest(kind=type(value)):
