@@ -2,14 +2,12 @@
 
 from meetrounds.errors import InvalidGuests, InvalidHosts, InvalidTables, InvalidText
 from meetrounds.limits import MOST_BOUND, MOST_SIDE, MOST_TABLES
-from meetrounds.values import is_integer, is_name
+from meetrounds.values import is_integer, is_name, is_pair
 
 
 def _is_member(value):
     """Whether the value is a pair of a name and a bound."""
-    if not isinstance(value, tuple) or len(value) != 2:
-        return False
-    return is_name(value[0]) and is_integer(value[1], 1, MOST_BOUND)
+    return is_pair(value) and is_name(value[0]) and is_integer(value[1], 1, MOST_BOUND)
 
 
 def _fault(side, taken):

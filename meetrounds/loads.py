@@ -3,27 +3,22 @@
 from meetrounds.arguments import check_fair, check_meetings, check_planned
 from meetrounds.errors import TooFewRounds
 from meetrounds.fairs import Fair
-from meetrounds.tables import ceiling, limits_of, lines_of, sum_of
+from meetrounds.tables import ceiling, sum_of
 
 
-def _reasons(fair):
-    """For each line what it can bind by, None for the numbers, which bind by nothing of their own."""
-    hosts = [("host", name) for name, _ in fair.hosts]
-    guests = [("guest", name) for name, _ in fair.guests]
-    return hosts + [None] * (len(hosts) * len(guests)) + guests + [("tables",)]
-
-
-def _needs(fair, meetings):
-    """For each line the number of rounds that it needs; 0 where nothing limits it."""
-    needs = []
-    for line, limit in zip(lines_of(meetings), limits_of(fair)):
-        needs.append(0 if limit is None else ceiling(line, limit))
-    return needs
+def reasons(fair, meetings):
+    """Pairs of what can bind, a host, a guest or the tables, and of how many rounds it needs."""
+    columns = [sum(column) for column in zip(*meetings)]
+    pairs = [(("host", name), ceiling(sum(row), bound)) for (name, bound), row in zip(fair.hosts, meetings)]
+    pairs.extend([(("guest", name), ceiling(many, bound)) for (name, bound), many in zip(fair.guests, columns)])
+    if fair.tables is not None:
+        pairs.append((("tables",), ceiling(sum(columns), fair.tables)))
+    return pairs
 
 
 def least_rounds(fair, meetings):
     """The load for a fair and meetings that are known to be such."""
-    return max(_needs(fair, meetings))
+    return max([need for _, need in reasons(fair, meetings)])
 
 
 def check_enough(fair, meetings, rounds):
@@ -44,11 +39,10 @@ def binding(fair, meetings):
     """The host, the guest or the tables for which the load can't be less; None if there is nothing to meet."""
     check_fair(fair)
     check_meetings(fair, meetings)
-    needs = _needs(fair, meetings)
-    most = max(needs)
+    most = least_rounds(fair, meetings)
     if most == 0:
         return None
-    return _reasons(fair)[needs.index(most)]
+    return [reason for reason, need in reasons(fair, meetings) if need == most][0]
 
 
 def tables_needed(fair, meetings, rounds):

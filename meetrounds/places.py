@@ -71,19 +71,25 @@ def _settle(ways, lines, bounds, surplus):
         route = _route(_steps(ways, lines, bounds), surplus)
 
 
-def some_lines(hosts, guests, bounds):
-    """The lines of any table of so many rows and columns within the bounds; None if there is none."""
+def _settled(hosts, guests, bounds):
+    """Lines within the bounds with as little surplus as possible, and this surplus."""
     ways = _ways(hosts, guests)
     lines = [least for least, _ in bounds]
     surplus = _surplus(ways, lines, hosts + guests + 2)
     _settle(ways, lines, bounds, surplus)
+    return lines, surplus
+
+
+def some_lines(hosts, guests, bounds):
+    """The lines of any table of so many rows and columns within the bounds; None if there is none."""
+    lines, surplus = _settled(hosts, guests, bounds)
     if any(surplus):
         return None
     return lines
 
 
-def nearest(hosts, guests, bounds, at, goal):
-    """The number nearest to the goal, which is within the bounds, that this line has in tables; there must be some."""
+def _pushed(hosts, guests, bounds, at, goal):
+    """All lines and their bounds if this line went to the goal, and the surplus that can't follow it there."""
     ways = _ways(hosts, guests)
     lines = some_lines(hosts, guests, bounds)
     begin, end = ways[at]
@@ -94,4 +100,52 @@ def nearest(hosts, guests, bounds, at, goal):
     surplus[end] = goal - lines[at]
     surplus[begin] = lines[at] - goal
     _settle(ways, lines, held, surplus)
+    return lines, held, surplus
+
+
+def nearest(hosts, guests, bounds, at, goal):
+    """The number nearest to the goal, which is within the bounds, that this line has in tables; there must be some."""
+    surplus = _pushed(hosts, guests, bounds, at, goal)[2]
+    end = _ways(hosts, guests)[at][1]
     return goal - surplus[end]
+
+
+def _stuck(ways, lines, bounds, surplus):
+    """The lot of places that can be reached from those with too much, when as little surplus as possible is left."""
+    steps = _steps(ways, lines, bounds)
+    lot = [place for place, many in enumerate(surplus) if many > 0]
+    wider = lot
+    while wider:
+        ends = [step[1] for step in steps if step[0] in wider]
+        wider = [place for place in range(len(surplus)) if place in ends and place not in lot]
+        lot = lot + wider
+    return lot
+
+
+def closed_lot(hosts, guests, bounds):
+    """A lot of places that is closed off, so that there is no table within the bounds; None if there is one."""
+    lines, surplus = _settled(hosts, guests, bounds)
+    if not any(surplus):
+        return None
+    return _stuck(_ways(hosts, guests), lines, bounds, surplus)
+
+
+def holding_lot(hosts, guests, bounds, at):
+    """The lot of places that keeps this line from being more in tables, of which there must be some, than it can be.
+
+    It is empty if the greatest bound of the line itself does so.
+    """
+    lines, held, surplus = _pushed(hosts, guests, bounds, at, bounds[at][1])
+    return _stuck(_ways(hosts, guests), lines, held, surplus)
+
+
+def crossing(hosts, guests, bounds, lot):
+    """The least bounds of all ways into a lot of places and the greatest ones of all ways out of it, each together."""
+    into = 0
+    out = 0
+    for (begin, end), (least, greatest) in zip(_ways(hosts, guests), bounds):
+        if end in lot and begin not in lot:
+            into += least
+        if begin in lot and end not in lot:
+            out += greatest
+    return into, out

@@ -6,7 +6,7 @@ from meetrounds.limits import MOST_SIDE
 from meetrounds.loads import check_enough, least_rounds
 from meetrounds.places import some_lines
 from meetrounds.tables import ceiling, limits_of, lines_of, table_fault, table_of
-from meetrounds.values import is_integer
+from meetrounds.values import is_integer, is_pair
 
 
 def _even_bounds(floors, rests, left):
@@ -54,7 +54,7 @@ def schedule(fair, meetings, rounds=None):
 
 def _is_block(value):
     """Whether the value is a pair of anything and an integer from 1 on."""
-    return isinstance(value, tuple) and len(value) == 2 and is_integer(value[1], 1)
+    return is_pair(value) and is_integer(value[1], 1)
 
 
 def _are_blocks(value):
@@ -62,7 +62,7 @@ def _are_blocks(value):
     return isinstance(value, tuple) and all([_is_block(block) for block in value])
 
 
-def _is_round(fair, table):
+def is_round(fair, table):
     """Whether any value is a round of the fair."""
     if table_fault(table, len(fair.hosts), len(fair.guests)):
         return False
@@ -71,10 +71,10 @@ def _is_round(fair, table):
 
 def _is_schedule(fair, value):
     """Whether any value is a schedule of the fair."""
-    return _are_blocks(value) and all([_is_round(fair, table) for table, _ in value])
+    return _are_blocks(value) and all([is_round(fair, table) for table, _ in value])
 
 
-def _length(blocks):
+def length_of(blocks):
     """The number of rounds of these blocks."""
     return sum([times for _, times in blocks])
 
@@ -115,7 +115,7 @@ def is_even(value):
         return True
     if not _are_tables_alike(value):
         raise InvalidSchedule(value)
-    length = _length(value)
+    length = length_of(value)
     even = [(line // length, ceiling(line, length)) for line in _sum_of_lines(value)]
     return all([line in pair for table, _ in value for line, pair in zip(lines_of(table), even)])
 

@@ -47,6 +47,21 @@ def table_of(lines, hosts, guests):
     return tuple([tuple(lines[begin:begin + guests]) for begin in begins])
 
 
+def is_within(table, greater):
+    """Whether no number of a table is more than that of another one of its size."""
+    return all([number <= most for row, mosts in zip(table, greater) for number, most in zip(row, mosts)])
+
+
+def difference(table, taken):
+    """What is left of a table when another one of its size is taken away."""
+    return tuple([tuple([number - less for number, less in zip(*rows)]) for rows in zip(table, taken)])
+
+
+def repeated(table, times):
+    """The sum of so many tables that are alike."""
+    return tuple([tuple([number * times for number in row]) for row in table])
+
+
 def limits_of(fair):
     """For each line how much of it a round of the fair can have at most, None where only other lines limit it."""
     hosts = [bound for _, bound in fair.hosts]

@@ -17,3 +17,8 @@ def is_name(value):
     if not isinstance(value, str) or not 1 <= len(value) <= _LONGEST_NAME:
         return False
     return value[0] in _FIRST_SIGNS and all([sign in _SIGNS for sign in value])
+
+
+def is_pair(value):
+    """Whether the value is a tuple of two elements."""
+    return isinstance(value, tuple) and len(value) == 2

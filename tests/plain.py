@@ -22,6 +22,12 @@ def nothing(fair):
     return ((0,) * len(fair.guests),) * len(fair.hosts)
 
 
+def pairs_of(fair):
+    """All hosts with all guests, by their indexes and by their names."""
+    for (row, (host, _)), (column, (guest, _)) in itertools.product(enumerate(fair.hosts), enumerate(fair.guests)):
+        yield row, column, host, guest
+
+
 def combined(left, right, function):
     """The table that has the function of two tables' numbers as its numbers."""
     return tuple(tuple(map(function, one, other)) for one, other in zip(left, right))
@@ -45,6 +51,11 @@ def columns_of(table):
 
 def sum_of(table):
     return sum(rows_of(table))
+
+
+def is_inside(table, most):
+    """Whether a table is within another one."""
+    return all(number <= other for pair in zip(table, most) for number, other in zip(*pair))
 
 
 def all_lines(table):
@@ -119,6 +130,23 @@ def bounds_by_time(fair, meetings, rounds, first):
     lines = all_lines(meetings)
     for name, limit in limits.items():
         bounds[name] = (max(0, lines[name] - (rounds - first) * limit), first * limit)
+    return bounds
+
+
+def urgent_bounds(fair, meetings, rounds, first, urgent):
+    """The bounds by time with the numbers of urgent in the place of 0."""
+    bounds = bounds_by_time(fair, meetings, rounds, first)
+    for row, column, _, _ in pairs_of(fair):
+        bounds[row, column] = (urgent[row][column], meetings[row][column])
+    return bounds
+
+
+def kept_bounds(fair, meetings, rounds):
+    """The bounds of the tables that can be kept, by the words of promise [12], under the names of the lines."""
+    bounds = {(row, column): (0, meetings[row][column]) for row, column, _, _ in pairs_of(fair)}
+    bounds.update({("row", at): (0, rounds * bound) for at, (_, bound) in enumerate(fair.hosts)})
+    bounds.update({("column", at): (0, rounds * bound) for at, (_, bound) in enumerate(fair.guests)})
+    bounds["sum"] = (0, sum_of(meetings) if fair.tables is None else rounds * fair.tables)
     return bounds
 
 
@@ -242,6 +270,16 @@ def any_case(source):
 def any_rounds(source, load):
     """Any number of rounds that are enough for this load, often just so many."""
     return load + source.choice((0, 0, 0, 1, 2, load, 3 * load + 7, source.randrange(load + 2), 10 ** 79))
+
+
+def any_within(source, meetings):
+    """Any table within the meetings."""
+    kind = source.randrange(5)
+    if kind == 0:
+        return meetings
+    if kind == 1:
+        return tuple(tuple(source.choice((0, 0, 0, many)) for many in row) for row in meetings)
+    return tuple(tuple(source.choice((0, many, source.randrange(many + 1))) for many in row) for row in meetings)
 
 
 def any_first(source, rounds):

@@ -11,7 +11,7 @@ from meetrounds.schedules import round_at, schedule
 from odd import GREAT, ODD, EqualToAll, Touchy
 from plain import (
     MOST, SCHOOL, WIDE, Search, any_first, any_rounds, bounds_by_time, combined, fair_of, great_cases, is_possible,
-    keeps_within, load_of, minus, nothing, plus, range_by_lots, small_cases, sum_of, tables_within,
+    keeps_within, load_of, minus, nothing, pairs_of, plus, range_by_lots, small_cases, sum_of, tables_within,
 )
 from wrong import MEETINGS, NO_NUMBERS, WRONG_NUMBERS, WrongCase, wrong_tables
 
@@ -20,12 +20,6 @@ RIGHT_VALUE = {**PLANNED, "value": ((1, 1), (0, 2))}
 RIGHT_PAIR = {**PLANNED, "host": "ann", "guest": "x"}
 RIGHT_MANY = {**RIGHT_PAIR, "many": 1}
 WRONG_FIRST = WRONG_NUMBERS + (7, 8, GREAT)
-
-
-def pairs_of(fair):
-    """All hosts with all guests, by their indexes and by their names."""
-    for (row, (host, _)), (column, (guest, _)) in itertools.product(enumerate(fair.hosts), enumerate(fair.guests)):
-        yield row, column, host, guest
 
 
 def plans(cases):

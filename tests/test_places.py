@@ -3,9 +3,9 @@
 import random
 import unittest
 
-from meetrounds.places import nearest, some_lines
+from meetrounds.places import closed_lot, crossing, holding_lot, nearest, some_lines
 from meetrounds.tables import table_of
-from plain import all_lines, is_possible, keeps_within, range_by_lots, tables_within
+from plain import all_lines, all_lots, in_and_out, is_possible, keeps_within, range_by_lots, tables_within, way_of
 
 
 def names_of_lines(hosts, guests):
@@ -25,7 +25,43 @@ def any_bounds(source, hosts, guests, scale):
     return bounds
 
 
+def places_in_order(hosts, guests):
+    """The places in the order in which the package counts them."""
+    return ["<"] + [("host", at) for at in range(hosts)] + [("guest", at) for at in range(guests)] + [">"]
+
+
 class PlacesTest(unittest.TestCase):
+    def assert_closed(self, hosts, guests, bounds):
+        """There is a lot that is closed off just if there is no table."""
+        plain = list(bounds.values())
+        told = closed_lot(hosts, guests, plain)
+        self.assertEqual(list(bounds.values()), plain)
+        if told is None:
+            self.assertTrue(is_possible(hosts, guests, bounds))
+            return
+        self.assertEqual(len(set(told)), len(told))
+        places = places_in_order(hosts, guests)
+        into, out = in_and_out(bounds, {places[number] for number in told})
+        self.assertGreater(into, out)
+        self.assertEqual((into, out), crossing(hosts, guests, plain, told))
+
+    def assert_held(self, hosts, guests, bounds, at):
+        """The lot holds the line to the most that it can be, if its own greatest bound doesn't."""
+        plain = list(bounds.values())
+        name = list(bounds)[at]
+        told = holding_lot(hosts, guests, plain, at)
+        most = range_by_lots(hosts, guests, bounds, name)[1]
+        if not told:
+            self.assertEqual(bounds[name][1], most)
+            return False
+        places = places_in_order(hosts, guests)
+        lot = {places[number] for number in told}
+        begin, end = way_of(name)
+        self.assertEqual((len(told), True, False), (len(lot), end in lot, begin in lot))
+        into, out = in_and_out({other: bounds[other] for other in bounds if other != name}, lot)
+        self.assertEqual(most, out - into)
+        return True
+
     def assert_found(self, hosts, guests, bounds):
         """There is a table just if no lot is closed off, and each line goes as far as the lots let it."""
         plain = list(bounds.values())
@@ -51,6 +87,27 @@ class PlacesTest(unittest.TestCase):
                 hosts, guests = source.randrange(1, 5), source.randrange(1, 4)
                 found.append(self.assert_found(hosts, guests, any_bounds(source, hosts, guests, scale)))
         self.assertTrue(30 < sum(found) < 270, sum(found))
+
+    def test_lots_that_are_closed_off_and_lots_that_hold_a_line(self):
+        source = random.Random(152)
+        held = []
+        for scale in (1, 10 ** 30):
+            for _ in range(150):
+                hosts, guests = source.randrange(1, 5), source.randrange(1, 4)
+                bounds = any_bounds(source, hosts, guests, scale)
+                self.assert_closed(hosts, guests, bounds)
+                if is_possible(hosts, guests, bounds):
+                    held.append(self.assert_held(hosts, guests, bounds, source.randrange(len(bounds))))
+        self.assertTrue(20 < sum(held) < len(held) - 20, held)
+
+    def test_what_crosses_the_edge_of_each_lot(self):
+        source = random.Random(153)
+        for hosts, guests in ((1, 1), (2, 1), (1, 3), (2, 3)):
+            bounds = any_bounds(source, hosts, guests, 7)
+            places = places_in_order(hosts, guests)
+            for lot in all_lots(hosts, guests):
+                numbers = [places.index(place) for place in lot]
+                self.assertEqual(in_and_out(bounds, lot), crossing(hosts, guests, list(bounds.values()), numbers))
 
     def test_each_line_of_small_tables_against_all_tables(self):
         source = random.Random(151)

@@ -3,9 +3,11 @@
 import itertools
 import unittest
 
-from meetrounds.tables import ceiling, limits_of, line_at, lines_of, sum_of, table_fault, table_of
+from meetrounds.tables import (
+    ceiling, difference, is_within, limits_of, line_at, lines_of, repeated, sum_of, table_fault, table_of,
+)
 from odd import GREAT, ODD
-from plain import MOST, SCHOOL, WIDE, fair_of
+from plain import MOST, SCHOOL, WIDE, fair_of, is_inside, plus, tables_within
 from wrong import wrong_tables
 
 WIDE_TABLE = ((1, 2, 4), (8, 16, 32))
@@ -42,6 +44,14 @@ class TablesTest(unittest.TestCase):
         self.assertEqual(((1,), (2,), (4,)), table_of(lines_of(((1,), (2,), (4,))), 3, 1))
         for row, column in itertools.product(range(2), range(3)):
             self.assertEqual(WIDE_TABLE[row][column], lines_of(WIDE_TABLE)[line_at(2, 3, row, column)])
+
+    def test_parts_and_sums_of_tables(self):
+        tables = tables_within(((1, 1), (0, 2)))
+        for one, other in itertools.product(tables, repeat=2):
+            self.assertIs(is_inside(one, other), is_within(one, other))
+            self.assertEqual(one, difference(plus(one, other), other))
+            self.assertEqual(plus(one, plus(one, one)), repeated(one, 3))
+        self.assertEqual(((GREAT, 0, 2 * GREAT),), repeated(((1, 0, 2),), GREAT))
 
     def test_limits(self):
         self.assertEqual([1, 1, None, None, None, None, 1, 2, 2], limits_of(SCHOOL))

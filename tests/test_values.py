@@ -1,8 +1,8 @@
-"""What an integer and what a name is, promise [3]."""
+"""What an integer, a name and a pair is, promise [3]."""
 
 import unittest
 
-from meetrounds.values import is_integer, is_name
+from meetrounds.values import is_integer, is_name, is_pair
 from odd import GREAT, ODD, EqualToAll, Touchy
 
 LETTERS = "abcdefghijklmnopqrstuvwxyz"
@@ -37,6 +37,14 @@ class IntegerTest(unittest.TestCase):
         for value in ODD:
             if type(value) is not int:
                 self.assertIs(False, is_integer(value, -GREAT, GREAT))
+
+
+class PairTest(unittest.TestCase):
+    def test_pairs_and_other_values(self):
+        for value in ((1, 2), (None, ()), ((), ()), (EqualToAll(), Touchy())):
+            self.assertIs(True, is_pair(value))
+        for value in ODD + ([1, 2], (1,), (1, 2, 3), "ab", {1: 2, 3: 4}):
+            self.assertIs(type(value) is tuple and len(value) == 2, is_pair(value))
 
 
 class NameTest(unittest.TestCase):

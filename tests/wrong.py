@@ -3,7 +3,10 @@
 import itertools
 import unittest
 
-from meetrounds.errors import InvalidMeetings, InvalidNumber, NotAFair, TooFewRounds, UnknownName
+from meetrounds.errors import (
+    InvalidAsked, InvalidChanges, InvalidGrowth, InvalidMeetings, InvalidNumber, InvalidUrgent, NotAFair, TooFewRounds,
+    UnknownName,
+)
 from odd import GREAT, ODD, EqualToAll, Touchy
 from plain import MOST, SCHOOL
 
@@ -18,6 +21,16 @@ ONE_WRONG = {
     "host": ("x", UnknownName, "x"),
     "guest": ("bob", UnknownName, "bob"),
     "many": (-3, InvalidNumber, -3),
+    "urgent": (((3, 2), (2, 4)), InvalidUrgent, 1),
+    "start": (((9, 9), (9, 10)), InvalidMeetings, 1),
+    "growth": (((3, 4), (3, 3)), InvalidGrowth, 0),
+    "changes": ((("ann", 1), ("ann", 2)), InvalidChanges, 1),
+    "asked": (((MEETINGS, 5), (MEETINGS, -1)), InvalidAsked, 1),
+}
+
+# For each argument that is a table the error of those that are none.
+TABLE_ERRORS = {
+    "meetings": InvalidMeetings, "urgent": InvalidUrgent, "start": InvalidMeetings, "growth": InvalidGrowth,
 }
 
 WRONG_FAIRS = ODD + (str(SCHOOL), (SCHOOL.hosts, SCHOOL.guests), SCHOOL.hosts, [SCHOOL], (SCHOOL,), type(SCHOOL))
@@ -80,17 +93,18 @@ class WrongCase(unittest.TestCase):
             with self.subTest(call=call.__name__, name=name, kind=type(value)):
                 self.assert_error(error, value, call, **{**right, name: value})
 
-    def assert_meetings(self, call, right):
-        """Each table that is none raises its error."""
+    def assert_tables(self, name, call, right):
+        """Each value that is no table raises the error with the index of its first wrong row."""
         for value, index in wrong_tables():
-            with self.subTest(call=call.__name__, index=index):
-                self.assert_error(InvalidMeetings, index, call, **{**right, "meetings": value})
+            with self.subTest(call=call.__name__, name=name, index=index):
+                self.assert_error(TABLE_ERRORS[name], index, call, **{**right, name: value})
 
     def assert_all(self, call, right):
         """Wrong values for each argument that all calls have in common raise their errors."""
         self.assert_given(NotAFair, "fair", WRONG_FAIRS, call, right)
-        if "meetings" in right:
-            self.assert_meetings(call, right)
+        for name in TABLE_ERRORS:
+            if name in right:
+                self.assert_tables(name, call, right)
         if "rounds" in right:
             wrong = [value for value in WRONG_NUMBERS if value is not None or call.__name__ != "schedule"]
             self.assert_given(InvalidNumber, "rounds", wrong, call, right)
