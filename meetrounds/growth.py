@@ -4,7 +4,7 @@ A growing line is a triple of its start, its growth and its limit: it needs the 
 limit, and the load is the most that one of them needs.
 """
 
-from math import lcm
+from math import gcd
 
 from meetrounds.arguments import check_fair
 from meetrounds.errors import InvalidGrowth, InvalidMeetings
@@ -31,7 +31,7 @@ def _lead(one, other):
 
 
 def _fastest(growing):
-    """One of those that grow fastest."""
+    """Any one of those that grow fastest."""
     best = growing[0]
     for one in growing:
         if _lead(one, best) > 0:
@@ -49,23 +49,6 @@ def _overtaken(best, growing):
     return max(steps)
 
 
-def _repeats(growing, period):
-    """Whether the load rises alike in each period, if all grow alike."""
-    cycle = 1
-    for _, _, limit in growing:
-        cycle = lcm(cycle, limit)
-    rises = [_load_at(growing, step + period) - _load_at(growing, step) for step in range(cycle)]
-    return min(rises) == max(rises)
-
-
-def _least_period(growing):
-    """The least period with which the load rises alike, if all grow alike."""
-    period = 1
-    while not _repeats(growing, period):
-        period += 1
-    return period
-
-
 def grown(fair, start, growth):
     """The load at all steps as a triple (early, period, rise)."""
     check_fair(fair)
@@ -77,9 +60,11 @@ def grown(fair, start, growth):
         raise InvalidGrowth(fault[0])
     growing = _growing_lines(fair, start, growth)
     best = _fastest(growing)
-    leading = [one for one in growing if _lead(best, one) == 0]
-    period = _least_period(leading)
-    rise = _load_at(leading, period) - _load_at(leading, 0)
+    # In the end only those count that grow as fast as the best one, by rise / period a step, a fraction in lowest
+    # terms: in so many steps each of them rises by just this, and in no fewer steps by any integer.
+    share = gcd(best[1], best[2])
+    period = best[2] // share
+    rise = best[1] // share
     begin = _overtaken(best, growing)
     while begin > 0 and _load_at(growing, begin - 1 + period) - _load_at(growing, begin - 1) == rise:
         begin -= 1

@@ -207,6 +207,56 @@ def range_by_lots(hosts, guests, bounds, name):
     return least, most
 
 
+def is_table(fair, value):
+    """Whether any value is a table of meetings of the fair, promise [7]."""
+    if type(value) is not tuple or len(value) != len(fair.hosts):
+        return False
+    if any(type(row) is not tuple or len(row) != len(fair.guests) for row in value):
+        return False
+    return all(type(many) is int and 0 <= many <= MOST for row in value for many in row)
+
+
+def most_met(fair, meetings, rounds, first, host, guest):
+    """The most that these two meet in first rounds, as the lots of places tell it."""
+    at = fair.names.index(host), fair.names.index(guest) - len(fair.hosts)
+    return range_by_lots(len(fair.hosts), len(fair.guests), bounds_by_time(fair, meetings, rounds, first), at)[1]
+
+
+def are_enough(fair, meetings, rounds, urgent, first):
+    """Whether so many first rounds are enough, as the lots of places tell it."""
+    bounds = urgent_bounds(fair, meetings, rounds, first, urgent)
+    return is_possible(len(fair.hosts), len(fair.guests), bounds)
+
+
+def most_kept(fair, meetings, rounds):
+    """The most kept, as the lots of places tell it."""
+    return range_by_lots(len(fair.hosts), len(fair.guests), kept_bounds(fair, meetings, rounds), "sum")[1]
+
+
+def wish_holds(fair, wish):
+    """Whether a wish holds for this fair, by the words of promise [14]."""
+    kind, _, meetings, rounds, *rest = wish
+    if not is_table(fair, meetings):
+        return False
+    if kind == "kept":
+        return most_kept(fair, meetings, rounds) >= rest[0]
+    if load_of(fair, meetings) > rounds:
+        return False
+    if kind == "front":
+        first, host, guest, many = rest
+        if first > rounds or host not in [name for name, _ in fair.hosts]:
+            return False
+        if guest not in [name for name, _ in fair.guests]:
+            return False
+        return most_met(fair, meetings, rounds, first, host, guest) <= many
+    if kind == "urgent":
+        urgent, first = rest
+        if first > rounds or not is_table(fair, urgent) or not is_inside(urgent, meetings):
+            return False
+        return are_enough(fair, meetings, rounds, urgent, first)
+    return True
+
+
 def curve_of(values):
     """The triples of a curve that is told by all its values."""
     triples = []

@@ -1,6 +1,5 @@
 """First rounds, promises [10] and [15] and the interface of meetrounds.front."""
 
-import itertools
 import unittest
 
 from meetrounds import front

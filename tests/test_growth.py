@@ -1,6 +1,7 @@
 """Meetings that grow, promise [13] and the interface of meetrounds.growth."""
 
 import itertools
+import math
 import random
 import unittest
 
@@ -89,28 +90,33 @@ class GrowthTest(WrongCase):
         self.assertTrue({1, 2, 3, 4} <= periods, periods)
         self.assertGreater(len(begins), 8)
 
-    def test_great_periods(self):
-        # Lines that grow alike, with limits that have little in common, together repeat only after many steps.
-        fair = fair_of((3, 4), (4, 4), 7)
-        seen = set()
-        for start in ((0, 0, 0, 1), (1, 2, 3, 4), (9, 8, 7, 6), (2, 0, 0, 2), (5, 1, 0, 3)):
-            rows = (start[:2], start[2:])
-            seen.add(self.assert_grown(fair, rows, ((3, 0), (2, 2)))[1])
-            seen.add(self.assert_grown(fair, rows, ((0, 3), (0, 3)))[1])
-        for tables in (5, 7, 11):
-            told = self.assert_grown(fair_of((4,), (4,) * 4, tables), ((1, 1, 1, 1),), ((1, 1, 1, 0),))
-            seen.add(told[1])
-        self.assertGreater(max(seen), 2)
+    def test_all_periods(self):
+        # The tables grow fastest, by 1 of so many a step.
+        for tables in range(1, 13):
+            fair = fair_of((4, 4), (4, 4), tables)
+            for start in (((0, 0), (0, 0)), ((1, 2), (3, 4)), ((9, 8), (7, 6))):
+                for growth in (((1, 0), (0, 0)), ((3, 3), (3, 2)), ((1, 1), (1, 1))):
+                    period = self.assert_grown(fair, start, growth)[1]
+                    if tables < 4 and growth[0][1] == 0:
+                        self.assertEqual(tables, period)
+        for bound in (1, 2, 3, 4):
+            for growth in range(4):
+                told = self.assert_grown(fair_of((bound,), (4,)), ((7,),), ((growth,),))
+                self.assertEqual(bound // math.gcd(bound, growth), told[1])
+        fair = fair_of((4, 3, 4), (4, 4, 3, 3), 8)
+        start = ((0, 9, 5, 9), (9, 0, 5, 9), (9, 0, 1, 0))
+        self.assertEqual(8, self.assert_grown(fair, start, ((1, 3, 3, 0), (3, 1, 0, 1), (3, 3, 2, 1)))[1])
 
     def test_lines_that_are_overtaken_late(self):
-        # The first guest starts far ahead and grows more slowly than the tables by ever so little.
-        fair = fair_of((4, 4, 4, 4), (4, 4, 4, 4), 11)
-        start = ((9, 0, 0, 0),) * 4
-        growth = ((3, 3, 2, 2), (3, 3, 2, 2), (2, 0, 2, 2), (0, 3, 1, 3))
-        early, _, _ = self.assert_grown(fair, start, growth)
-        growth = ((3, 3, 0, 3), (3, 3, 0, 3), (3, 0, 3, 3), (1, 0, 0, 0))
-        late, _, _ = self.assert_grown(fair, start, growth)
-        self.assertGreater(max(len(early), len(late)), 40)
+        # One line starts far ahead and grows more slowly than another one by ever so little.
+        fair = fair_of((2, 4, 3), (4, 3, 3, 4), 5)
+        start = ((3, 9, 0, 0), (9, 9, 9, 9), (2, 0, 0, 9))
+        early, period, _ = self.assert_grown(fair, start, ((1, 1, 0, 0), (0, 3, 0, 0), (3, 3, 2, 0)))
+        self.assertEqual(120, len(early) - period)
+        fair = fair_of((1, 4, 4, 3), (4, 4, 3, 4), 12)
+        start = ((9, 9, 9, 0), (0, 9, 1, 0), (0, 0, 0, 0), (9, 0, 0, 0))
+        early, period, _ = self.assert_grown(fair, start, ((0, 0, 2, 0), (1, 0, 0, 0), (0, 3, 0, 3), (1, 2, 3, 1)))
+        self.assertEqual(70, len(early) - period)
 
     def test_no_growth(self):
         for fair in (SCHOOL, WIDE, fair_of((4,), (1,), 1), fair_of((3,) * 4, (2,) * 4, 11)):
