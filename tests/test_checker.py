@@ -189,6 +189,28 @@ class CheckerTest(unittest.TestCase):
         self.assertIs(True, accepts(("load", wide, ((0,),), 0), ((), None)))
         self.assertIs(False, accepts(("load", wide, ((0,),), 0), ((), ("tables",))))
 
+    def test_cuts_that_are_none_where_nothing_is_kept(self):
+        wide = str(fair_of((1,), (1,)))
+        none = ((0,),)
+        claim = ("kept", wide, none, 0, 0)
+        for cut in (((), ()), (("a",), ()), ((), ("w",)), (("a",), ("w",))):
+            self.assertIs(True, accepts(claim, (none, cut)))
+        wrong = (
+            None, (), ((),), ((), (), ()), ("a", "w"), (("w",), ()), ((), ("a",)), (("a", "a"), ()), ((), ("w", "w")),
+            ([], ()), ((), []), [(), ()], (("b",), ()), ((), ("",)), 0, False, "", ((), None), (None, ()),
+        )
+        for cut in wrong:
+            self.assertIs(False, accepts(claim, (none, cut)))
+        for cut in ODD:
+            self.assert_judged(claim, (none, cut))
+
+    def test_claims_that_are_too_short_or_too_long(self):
+        for claim, certificate in some_papers():
+            for size in range(len(claim)):
+                self.assertIs(False, accepts(claim[:size], certificate))
+            self.assertIs(False, accepts(claim + claim[-1:], certificate))
+            self.assertIs(False, accepts(claim + (None,), certificate))
+
     def test_claims_with_too_few_rounds(self):
         for rounds, first in ((4, 2), (5, 6), (0, 0)):
             claim = ("front", TEXT, MEETINGS, rounds, first, "ann", "x", 0)

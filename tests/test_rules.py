@@ -20,8 +20,13 @@ DECORATORS = re.compile(r"property|classmethod|staticmethod|[a-z_]+\.setter")
 STATEMENTS_BARRED = (
     ast.Global, ast.AsyncFunctionDef, ast.AsyncFor, ast.AsyncWith, ast.Import, ast.Await, ast.Div, ast.MatMult,
     # Beside a class with __eq__, `any`, `sum` and the like take lists.
-    ast.GeneratorExp,
+    ast.GeneratorExp, ast.Yield, ast.YieldFrom,
 )
+OPERATORS = {
+    "__contains__": ["self"], "__getitem__": ["self"], "__setitem__": ["self"], "__iter__": ["self"],
+    "__bool__": ["self"], "__len__": ["self"], "__eq__": ["self", "other"], "__str__": ["self"], "__enter__": ["self"],
+    "__exit__": ["self", "kind", "value", "trace"], "__init__": ["self"],
+}
 
 
 def bound_names(tree):
@@ -115,6 +120,26 @@ class RulesTest(unittest.TestCase):
             if isinstance(node, ast.Constant):
                 self.assertNotIsInstance(node.value, (float, complex))
                 self.assertNotIn("%", str(node.value))
+
+    def test_double_underscore_methods(self):
+        self.each_file(self.check_double_underscore_methods)
+
+    def check_double_underscore_methods(self, _, tree):
+        for node in ast.walk(tree):
+            if isinstance(node, ast.FunctionDef) and node.name.startswith("__"):
+                begin = OPERATORS[node.name]
+                self.assertEqual(begin, [parameter.arg for parameter in node.args.args][:len(begin)])
+                if node.name == "__exit__":
+                    self.check_exit(node.body)
+
+    def check_exit(self, rows):
+        """What puts back at the end of a block only asks for the kind of exception and assigns names and attributes."""
+        for row in rows:
+            if isinstance(row, ast.If):
+                self.assertEqual(("kind is not None", []), (ast.unparse(row.test), row.orelse))
+                self.check_exit(row.body)
+            else:
+                self.assertRegex(ast.unparse(row), r"\A[a-z.]+ = self\.[a-z.]+\Z")
 
     def test_builtins(self):
         self.each_file(self.check_builtins)
